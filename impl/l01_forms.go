@@ -104,21 +104,11 @@ func InverseMatrix(m Matrix) (Matrix, int64) {
 	if !IsMatrix(m) {
 		return Matrix{}, ErrInvalid
 	}
-	crossed := Matrix{m[3], -m[1], -m[2], m[0]}
-	// The product of m and crossed is the determinant times 1, 0, 0, 1, so these two products tell
-	// the unit matrices, and the sign that turns crossed into the inverse.
-	signs := map[Matrix]int64{
-		{1, 0, 0, 1}:   1,
-		{-1, 0, 0, -1}: -1,
-	}
-	sign, isUnit := signs[matrixProduct(m, crossed)]
+	inverse, isUnit := invertedUnit(m)
 	if !isUnit {
 		return Matrix{}, ErrState
 	}
-	for i := range crossed {
-		crossed[i] *= sign
-	}
-	return crossed, ErrNone
+	return inverse, ErrNone
 }
 
 // ChangeForm returns f changed by m, and ErrNone.
@@ -126,13 +116,7 @@ func ChangeForm(f Form, m Matrix) (Form, int64) {
 	if !IsForm(f) || !IsMatrix(m) {
 		return Form{}, ErrInvalid
 	}
-	var values []int64
-	for x, y := range basePlaces {
-		values = append(values, formValue(f, m[0]*x+m[1]*y, m[2]*x+m[3]*y))
-	}
-	// The changed form has whole numbers, so these values always lead to one.
-	changed, _ := formWithValues([4]int64(values))
-	return withinLimit(changed)
+	return withinLimit(changedForm(f, m))
 }
 
 // AddForms returns the form with the numbers of f, and k times those of g, together, k of an
@@ -274,6 +258,37 @@ func matrixProduct(m Matrix, n Matrix) Matrix {
 		m[0]*n[0] + m[1]*n[2], m[0]*n[1] + m[1]*n[3],
 		m[2]*n[0] + m[3]*n[2], m[2]*n[1] + m[3]*n[3],
 	}
+}
+
+// invertedUnit returns the inverse of a matrix, whatever its size, or false if it is no unit
+// matrix.
+func invertedUnit(m Matrix) (Matrix, bool) {
+	crossed := Matrix{m[3], -m[1], -m[2], m[0]}
+	// The product of m and crossed is the determinant times 1, 0, 0, 1, so these two products tell
+	// the unit matrices, and the sign that turns crossed into the inverse.
+	signs := map[Matrix]int64{
+		{1, 0, 0, 1}:   1,
+		{-1, 0, 0, -1}: -1,
+	}
+	sign, isUnit := signs[matrixProduct(m, crossed)]
+	if !isUnit {
+		return Matrix{}, false
+	}
+	for i := range crossed {
+		crossed[i] *= sign
+	}
+	return crossed, true
+}
+
+// changedForm returns f changed by m, whatever its size.
+func changedForm(f Form, m Matrix) Form {
+	var values []int64
+	for x, y := range basePlaces {
+		values = append(values, formValue(f, m[0]*x+m[1]*y, m[2]*x+m[3]*y))
+	}
+	// The changed form has whole numbers, so these values always lead to one.
+	changed, _ := formWithValues([4]int64(values))
+	return changed
 }
 
 // basePlaces are four places whose values tell a form.
