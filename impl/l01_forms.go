@@ -32,7 +32,7 @@ func IsForm(f Form) bool { return allWithin(f[:], MaxNumber) }
 
 // ValueAt returns f(x, y), x and y of absolute values of at most MaxPlace, and ErrNone.
 func ValueAt(f Form, x int64, y int64) (int64, int64) {
-	if code := checkFormAndPlace(f, x, y); code != ErrNone {
+	if code := checkFormAndPlace(f, x, y, MaxPlace); code != ErrNone {
 		return 0, code
 	}
 	return formValue(f, x, y), ErrNone
@@ -52,11 +52,7 @@ func ContentOf(f Form) (int64, int64) {
 	if !IsForm(f) {
 		return 0, ErrInvalid
 	}
-	var content int64
-	for _, n := range f {
-		content = commonDivisor(content, n)
-	}
-	return content, ErrNone
+	return commonDivisorOf(f[:]), ErrNone
 }
 
 // PrimitivePart returns f with its numbers divided by the content, and ErrNone. Errors: ErrState if
@@ -142,7 +138,7 @@ func ReverseForm(f Form) (Form, int64) {
 // SlopesAt returns both slopes of f at x, y, of absolute values of at most MaxPlace, and ErrNone.
 // (x times the first one, and y times the second one, are 3 f(x, y) together.)
 func SlopesAt(f Form, x int64, y int64) (int64, int64, int64) {
-	if code := checkFormAndPlace(f, x, y); code != ErrNone {
+	if code := checkFormAndPlace(f, x, y, MaxPlace); code != ErrNone {
 		return 0, 0, code
 	}
 	a, b, c, d := f[0], f[1], f[2], f[3]
@@ -221,11 +217,11 @@ func withinLimit(f Form) (Form, int64) {
 	return f, ErrNone
 }
 
-func checkFormAndPlace(f Form, x int64, y int64) int64 {
+func checkFormAndPlace(f Form, x int64, y int64, limit int64) int64 {
 	if !IsForm(f) {
 		return ErrInvalid
 	}
-	if !isWithin(x, MaxPlace) || !isWithin(y, MaxPlace) {
+	if !isWithin(x, limit) || !isWithin(y, limit) {
 		return ErrRange
 	}
 	return ErrNone
@@ -240,6 +236,15 @@ func commonDivisor(m int64, n int64) int64 {
 		return -m
 	}
 	return m
+}
+
+// commonDivisorOf returns the greatest common divisor of a list, 0 if all its numbers are 0.
+func commonDivisorOf(numbers []int64) int64 {
+	var divisor int64
+	for _, n := range numbers {
+		divisor = commonDivisor(divisor, n)
+	}
+	return divisor
 }
 
 func formValue(f Form, x int64, y int64) int64 {
