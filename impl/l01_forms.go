@@ -43,8 +43,7 @@ func DiscriminantOf(f Form) (int64, int64) {
 	if !IsForm(f) {
 		return 0, ErrInvalid
 	}
-	a, b, c, d := f[0], f[1], f[2], f[3]
-	return b*b*c*c - 4*a*c*c*c - 4*b*b*b*d - 27*a*a*d*d + 18*a*b*c*d, ErrNone
+	return formDiscriminant(f), ErrNone
 }
 
 // ContentOf returns the content, and ErrNone.
@@ -249,6 +248,12 @@ func commonDivisorOf(numbers []int64) int64 {
 
 func formValue(f Form, x int64, y int64) int64 {
 	return f[0]*x*x*x + f[1]*x*x*y + f[2]*x*y*y + f[3]*y*y*y
+}
+
+// formDiscriminant returns the discriminant, whatever the size of the form.
+func formDiscriminant(f Form) int64 {
+	a, b, c, d := f[0], f[1], f[2], f[3]
+	return b*b*c*c - 4*a*c*c*c - 4*b*b*b*d - 27*a*a*d*d + 18*a*b*c*d
 }
 
 func addMultiple(f Form, g Form, k int64) Form {
