@@ -64,10 +64,7 @@ func PrimitivePart(f Form) (Form, int64) {
 	if f == (Form{}) {
 		return Form{}, ErrState
 	}
-	for i := range f {
-		f[i] /= content
-	}
-	return f, ErrNone
+	return dividedForm(f, content), ErrNone
 }
 
 // IsMatrix reports whether m is a matrix.
@@ -259,6 +256,14 @@ func formDiscriminant(f Form) int64 {
 func addMultiple(f Form, g Form, k int64) Form {
 	for i := range f {
 		f[i] += k * g[i]
+	}
+	return f
+}
+
+// dividedForm returns f divided by a divisor of its content.
+func dividedForm(f Form, divisor int64) Form {
+	for i := range f {
+		f[i] /= divisor
 	}
 	return f
 }
