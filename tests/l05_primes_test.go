@@ -613,38 +613,40 @@ func TestFormsThatAreZero(t *testing.T) {
 	}
 }
 
+// spoilLists changes each list with its spare memory, and asks whether the others stay.
+func spoilLists(t *testing.T, lists [][]int64) {
+	t.Helper()
+	for i, list := range lists {
+		var before [][]int64
+		for _, other := range slices.Delete(slices.Clone(lists), i, i+1) {
+			before = append(before, slices.Clone(other))
+		}
+		behind := list[:cap(list)]
+		for k := range behind {
+			behind[k] = 77
+		}
+		wantRows(t, "the other lists", slices.Delete(slices.Clone(lists), i, i+1), 0, before, 0)
+	}
+}
+
 // TestListsOfPrimesAreNew: no two lists share memory, also where the same root is told three times,
 // and a list that the caller changes is not the one of the next call.
 func TestListsOfPrimesAreNew(t *testing.T) {
-	spoil := func(lists [][]int64) {
-		t.Helper()
-		for i, list := range lists {
-			var before [][]int64
-			for _, other := range slices.Delete(slices.Clone(lists), i, i+1) {
-				before = append(before, slices.Clone(other))
-			}
-			behind := list[:cap(list)]
-			for k := range behind {
-				behind[k] = 77
-			}
-			wantRows(t, "the other lists", slices.Delete(slices.Clone(lists), i, i+1), 0, before, 0)
-		}
-	}
 	cube := impl.Form{8, 12, 6, 1}
 	for range 2 {
 		primes, code := impl.PrimesUpTo(7)
 		wantList(t, "PrimesUpTo", primes, code, []int64{2, 3, 5, 7}, impl.ErrNone)
 		kinds, code := impl.KindsUpTo(cube, 5)
 		wantList(t, "KindsUpTo", kinds, code, []int64{impl.KindCube, impl.KindCube, impl.KindCube}, impl.ErrNone)
-		spoil([][]int64{primes, kinds})
+		spoilLists(t, [][]int64{primes, kinds})
 		roots, code := impl.RootsModulo(impl.Form{0, 1, 1, 0}, 2)
 		wantRows(t, "RootsModulo", roots, code, [][]int64{{0, 1, 1}, {1, 1, 1}, {1, 0, 1}}, impl.ErrNone)
-		spoil(roots)
+		spoilLists(t, roots)
 		rational, code := impl.RationalRoots(impl.Form{0, 2, -1, -1})
 		wantRows(t, "RationalRoots", rational, code, [][]int64{{1, 0}, {1, 1}, {-1, 2}}, impl.ErrNone)
-		spoil(rational)
+		spoilLists(t, rational)
 		wantFactors(t, factorsCase{cube, 1, 1, [][]int64{{-1, 2}, {-1, 2}, {-1, 2}}, []int64{1}, impl.ErrNone})
 		_, _, factors, rest, _ := impl.FactorForm(cube)
-		spoil(append(slices.Clone(factors), rest))
+		spoilLists(t, append(slices.Clone(factors), rest))
 	}
 }
